@@ -15,7 +15,22 @@ FUNCTIONS = {
     ),
     "sweeps": ("overlap_times(a, move_a, b, move_b)", "first_contact(a, move_a, b, move_b)"),
     "rays": ("ray_time(box, origin, path)", "ray_stretch(box, origin, path)"),
+    "states": ("check_state(state)", "body_of(state, name)", "renamed(state, names)"),
+    "notation": ("write_state(state)", "read_state(text)"),
+    "rows": (
+        "check_pushes(state, pushes)", "free_speeds(state, pushes)", "axis_of(state, pushes, one, other)",
+        "rows_of(state, pushes)",
+    ),
+    "systems": ("solve(matrix, right)",),
+    "nearest": ("nearest(weights, wishes, lines)",),
 }
+CLASSES = {
+    ("broad", "Broad"): (
+        "__init__(self)", "add(self, name, box)", "move(self, name, box)", "remove(self, name)", "pairs(self)",
+        "near(self, box)", "box_of(self, name)",
+    ),
+}
+PROPERTIES = {("broad", "Broad"): ("names",)}
 
 
 class InterfaceTest(unittest.TestCase):
@@ -27,3 +42,22 @@ class InterfaceTest(unittest.TestCase):
                 function = vars(module)[name]
                 self.assertEqual(name + str(inspect.signature(function)), call)
                 self.assertEqual(function.__module__, module.__name__)
+
+    def test_methods(self):
+        for (module_name, class_name), calls in CLASSES.items():
+            owner = self.class_of(module_name, class_name)
+            for call in calls:
+                name = call.split("(")[0]
+                self.assertEqual(name + str(inspect.signature(vars(owner)[name])), call)
+
+    def test_properties(self):
+        for (module_name, class_name), names in PROPERTIES.items():
+            owner = self.class_of(module_name, class_name)
+            for name in names:
+                self.assertIsInstance(vars(owner)[name], property)
+
+    def class_of(self, module_name, class_name):
+        module = importlib.import_module(f"steadybodies.{module_name}")
+        owner = vars(module)[class_name]
+        self.assertEqual(owner.__module__, module.__name__)
+        return owner

@@ -32,7 +32,7 @@ STATEMENTS = (
 
 
 def sources():
-    for path in sorted(FOLDER.rglob("*")):
+    for path in sorted(FOLDER.glob("*.py")):
         yield path, path.read_text("utf-8")
 
 
@@ -55,7 +55,8 @@ def bound_names(node):
 class LanguageTest(unittest.TestCase):
     def test_the_package_is_one_folder_of_source_files(self):
         for path in FOLDER.iterdir():
-            self.assertRegex(path.name, r"^[a-z0-9_]+\.py$")
+            if path.name != "__pycache__":
+                self.assertRegex(path.name, r"^[a-z0-9_]+\.py$")
 
     def test_sizes_and_characters(self):
         for path, text in sources():
