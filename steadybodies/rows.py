@@ -6,16 +6,21 @@ A row is a tuple (name, parts, bound). Two bodies are looked at as a pair of ite
 from steadybodies.boxes import ends_of, gap_of_ends
 from steadybodies.errors import IdError, PushError
 from steadybodies.ratios import ONE, ZERO, compare, least, minus, plus
-from steadybodies.states import STANDING, box_of_body, check_state, joint_way, places_of
+from steadybodies.states import STANDING, box_of_body, check_state, is_moving, joint_way, places_of
 from steadybodies.vectors import add, scale
 
 MINUS_ONE = (-1, 1)
 
 
 def check_pushes(state, pushes):
-    """Raises PushError if the pushes are out of order or one is not of a moving body."""
+    """Raises the errors of the state, or PushError if the pushes are out of order or one is not of a moving body."""
     check_state(state)
-    moving = {body[0]: body[3] > 0 for body in state[0]}
+    check_pushed(state, pushes)
+
+
+def check_pushed(state, pushes):
+    """Raises PushError as check_pushes does, for a state that has been checked."""
+    moving = {body[0]: is_moving(body) for body in state[0]}
     before = -1
     for name, _ in pushes:
         if name <= before or not moving.get(name, False):
@@ -41,18 +46,24 @@ def axis_of(state, pushes, one, other):
 def rows_of(state, pushes):
     """All rows of a state and pushes."""
     check_pushes(state, pushes)
-    items = items_of(state, pushes)
-    found = []
-    for at, one in enumerate(items):
-        for other in items[at + 1:]:
-            if is_moving(one[0]) or is_moving(other[0]):
-                found.extend(rows_of_items(one, other))
-    return tuple(found + rows_of_joints(state))
+    return plain_rows(state, pushes)
 
 
-def is_moving(body):
-    """Whether a body is not a fixed one."""
-    return body[3] > 0
+def plain_rows(state, pushes):
+    """All rows, for a state and pushes that have been checked."""
+    fixed = {body[0]: True for body in state[0] if not is_moving(body)}
+    return tuple([
+        (name, tuple([part for part in parts if part[0] not in fixed]), bound)
+        for name, parts, bound in full_rows(state, pushes)
+    ])
+
+
+def full_rows(state, pushes):
+    """All rows, but with the parts that fixed bodies would have in them."""
+    rows = []
+    for one, other in pairs_of(items_of(state, pushes)):
+        rows.extend(rows_of_items(one, other))
+    return rows + rows_of_joints(state)
 
 
 def items_of(state, pushes):
@@ -67,6 +78,16 @@ def items_of(state, pushes):
             speed = add(speed, gain)
         items.append((body, ends_of(box_of_body(body)), speed))
     return items
+
+
+def pairs_of(items):
+    """Any two items, in order, whose bodies are not both fixed."""
+    return [
+        (one, other)
+        for at, one in enumerate(items)
+        for other in items[at + 1:]
+        if is_moving(one[0]) or is_moving(other[0])
+    ]
 
 
 def gap_of_items(one, other, axis):
@@ -118,8 +139,8 @@ def rows_of_items(one, other):
 
 
 def parts_of(terms):
-    """The parts of a row: terms (body, axis, factor) with names, without fixed bodies and zeros, in order."""
-    parts = [(body[0], axis, factor) for body, axis, factor in terms if is_moving(body) and factor != ZERO]
+    """The parts of a row: terms (body, axis, factor) with names, without zeros, in order."""
+    parts = [(body[0], axis, factor) for body, axis, factor in terms if factor != ZERO]
     return tuple(sorted(parts, key=lambda part: (part[0], part[1])))
 
 

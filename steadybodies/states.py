@@ -74,6 +74,11 @@ def joint_way(places, joint):
     return minus(places[other][axis], places[one][axis])
 
 
+def is_moving(body):
+    """Whether a body is not a fixed one."""
+    return body[3] > 0
+
+
 def box_of_body(body):
     """The box of a body."""
     return (body[1], body[2])
@@ -87,6 +92,11 @@ def places_of(bodies):
 def body_of(state, name):
     """The body with this name."""
     check_state(state)
+    return find_body(state, name)
+
+
+def find_body(state, name):
+    """The body with this name, of a state that has been checked."""
     for body in state[0]:
         if body[0] == name:
             return body

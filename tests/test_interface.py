@@ -23,6 +23,13 @@ FUNCTIONS = {
     ),
     "systems": ("solve(matrix, right)",),
     "nearest": ("nearest(weights, wishes, lines)",),
+    "judging": ("check_nearest(weights, wishes, lines, point, forces)",),
+    "ticks": ("settled(state, pushes)", "check_forces(state, pushes, speeds, forces)", "tick(state, pushes)"),
+    "ledger": ("momentum(state)", "energy(state)", "force_on(state, pushes, forces, name)", "contacts(state)"),
+    "islands": ("islands(state, pushes)", "alone(state, island)"),
+    "resting": ("still(state, pushes)", "at_rest(state, pushes)"),
+    "zones": ("crossings(state, pushes, zone)",),
+    "walking": ("walk(state, box, wish, first)",),
 }
 CLASSES = {
     ("broad", "Broad"): (

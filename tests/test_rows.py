@@ -2,17 +2,12 @@
 
 import random
 import unittest
-from fractions import Fraction
 
-from helpers import body, fr, joint, low_high, number, plain_gap, random_pushes, random_state, state, vec
+from helpers import body, fr, joint, plain_free, plain_rows, push, random_pushes, random_state, state, vec
 from steadybodies.errors import BodyError, IdError, JointError, OverlapError, PushError
 from steadybodies.rows import axis_of, check_pushes, free_speeds, rows_of
 
 FIXED = body(0, -9, -1, 18, 1, 0, 4)
-
-
-def push(name, x=0, y=0):
-    return (name, vec(x, y))
 
 
 def row(name, parts, bound):
@@ -254,56 +249,3 @@ class RowsOfManyTest(unittest.TestCase):
             a_state = random_state(rng, rng.randint(2, 8))
             pushes = random_pushes(rng, a_state)
             self.assertEqual(rows_of(a_state, pushes), plain_rows(a_state, pushes))
-
-
-def plain_free(a_state, pushes):
-    """The free speeds by name, word by word as the document has them."""
-    free = {}
-    for name, _, _, mass, _, speed in a_state[0]:
-        gained = [number(speed[axis]) + number(a_state[2][axis]) for axis in (0, 1)] if mass else [0, 0]
-        for pushed, vector in pushes:
-            if pushed == name:
-                gained = [gained[axis] + number(vector[axis]) / mass for axis in (0, 1)]
-        free[name] = vec(*gained)
-    return free
-
-
-def plain_rows(a_state, pushes):
-    """The rows of point 504 in another way: factors by body and axis, gathered in a dict."""
-    bodies, joints, _ = a_state
-    by_name = {a_body[0]: a_body for a_body in bodies}
-    free = plain_free(a_state, pushes)
-    rows = []
-
-    def put(name, factors, bound):
-        parts = [key + (fr(factor),) for key, factor in sorted(factors.items()) if by_name[key[0]][3] and factor]
-        rows.append((name, tuple(parts), fr(bound)))
-
-    def order(i, j, axis):
-        low_i, low_j = low_high(by_name[i][1:3], axis)[0], low_high(by_name[j][1:3], axis)[0]
-        return (i, j) if low_i < low_j else (j, i)
-
-    for at, one in enumerate(bodies):
-        for other in bodies[at + 1:]:
-            i, j = one[0], other[0]
-            gaps = [plain_gap(one[1:3], other[1:3], axis) for axis in (0, 1)]
-            ends = {}
-            for axis in (0, 1):
-                if gaps[axis] >= 0:
-                    b, f = order(i, j, axis)
-                    ends[axis] = gaps[axis] + number(free[f][axis]) - number(free[b][axis])
-            k = max(sorted(ends), key=ends.get)
-            if not one[3] and not other[3]:
-                continue
-            b, f = order(i, j, k)
-            m = min(number(one[4]), number(other[4]))
-            gripping = m != 0 and gaps[k] == 0 and gaps[1 - k] <= 0
-            for side, slope in enumerate([m, -m] if gripping else [Fraction(0)]):
-                factors = {(f, k): 1, (b, k): -1, (f, 1 - k): slope, (b, 1 - k): -slope}
-                put(("apart", i, j, side), factors, -gaps[k])
-    for n, (one, other, axis, low, high) in enumerate(joints):
-        if by_name[one][3] or by_name[other][3]:
-            d = number(by_name[other][1][axis]) - number(by_name[one][1][axis])
-            put(("joint", n, 0, 0), {(other, axis): 1, (one, axis): -1}, number(low) - d)
-            put(("joint", n, 0, 1), {(one, axis): 1, (other, axis): -1}, d - number(high))
-    return tuple(rows)
