@@ -97,6 +97,11 @@ def random_pushes(random, a_state):
     )
 
 
+def look(world):
+    """All that a world shows."""
+    return (world.state, world.pushes, world.ticks, world.journal, world.mark)
+
+
 def plain_free(a_state, pushes):
     """The free speeds by name, word by word as the document has them."""
     free = {}

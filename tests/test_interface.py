@@ -30,14 +30,26 @@ FUNCTIONS = {
     "resting": ("still(state, pushes)", "at_rest(state, pushes)"),
     "zones": ("crossings(state, pushes, zone)",),
     "walking": ("walk(state, box, wish, first)",),
+    "casting": ("cast(state, origin, path)", "sweep(state, box, move)"),
+    "digests": ("digest(text)",),
+    "replaying": ("replay(text)",),
+    "forecasts": ("forecast(state, pushes)",),
 }
 CLASSES = {
     ("broad", "Broad"): (
         "__init__(self)", "add(self, name, box)", "move(self, name, box)", "remove(self, name)", "pairs(self)",
         "near(self, box)", "box_of(self, name)",
     ),
+    ("worlds", "World"): (
+        "__init__(self, state)", "push(self, name, vector)", "tick(self)", "add(self, body)", "remove(self, name)",
+        "back(self, count)",
+    ),
+    ("watches", "Watch"): ("__init__(self, zones)", "told(self, state, pushes)", "inside(self, zone)"),
 }
-PROPERTIES = {("broad", "Broad"): ("names",)}
+PROPERTIES = {
+    ("broad", "Broad"): ("names",),
+    ("worlds", "World"): ("state", "pushes", "ticks", "journal", "mark"),
+}
 
 
 class InterfaceTest(unittest.TestCase):

@@ -98,6 +98,11 @@ class SeveralLinesTest(JudgeCase):
         for forces in good:
             self.check(True, (4,), point(0), lines, point(1), forces)
 
+    def test_indexes_do_not_count_from_the_end(self):
+        lines = [line([(1, 1)], -9), line([(0, 1)], 1)]
+        self.check(True, (1, 1), point(0, 0), lines, point(1, 0), [force(1, 1)])
+        self.check(False, (1, 1), point(0, 0), lines, point(1, 0), [force(-1, 1)])
+
     def test_a_force_that_draws(self):
         lines = [line([(0, 1)], 1)]
         self.check(False, (1,), point(2), lines, point(1), [force(0, -1)])

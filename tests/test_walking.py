@@ -86,6 +86,13 @@ class WalkTest(StateCase):
         self.check(bodies, (9, 9), 1, (9, 3), (False, True))
         self.check(bodies, ("1/2", 9), 0, ("1/2", 3), (False, True))
 
+    def test_bodies_behind_it_do_not_stop_it(self):
+        around = [body(1, 1, 0), body(2, -1, 0), body(3, 0, 1), body(4, 0, -1)]
+        for at, wish in enumerate([(-3, 0), (3, 0), (0, -3), (0, 3)]):
+            self.check_both(around[at:at + 1], wish, wish, (False, False))
+        self.check([body(1, "-1/2", 0, "1/2", 1)], (3, 0), 0, (3, 0), (False, False), box(0, 0, "1/2", 1))
+        self.check([body(1, "1/2", 0, "1/2", 1)], (-3, 0), 0, (-3, 0), (False, False), box(0, 0, "1/2", 1))
+
     def test_other_places_and_sizes(self):
         walker = box("1/2", -2, 3, "1/3")
         self.check([body(1, 5, -3, 1, "4/3")], (4, 0), 0, (2, -2), (True, False), walker)
