@@ -52,6 +52,24 @@ def ends_meet(one, other):
     )
 
 
+def hull_of_ends(one, other):
+    """The ends of the least box that contains two boxes with these ends."""
+    return tuple([
+        (least((low_one, low_other)), greatest((high_one, high_other)))
+        for (low_one, high_one), (low_other, high_other) in zip(one, other)
+    ])
+
+
+def point_ends(point):
+    """The ends of a point: those of a box without lengths."""
+    return ((point[0], point[0]), (point[1], point[1]))
+
+
+def barred_ends(box, size):
+    """The ends of all places at which a box with a size overlaps the given one; at the ends it does not."""
+    return tuple([(minus(low, length), high) for (low, high), length in zip(ends_of(box), size)])
+
+
 def gap(a, b, axis):
     """The gap of two boxes on an axis, negative where they have more than a point in common."""
     check_box(a)
@@ -101,7 +119,6 @@ def hull(a, b):
     """The least box that contains two boxes."""
     check_box(a)
     check_box(b)
-    sides = list(zip(ends_of(a), ends_of(b)))
-    low = tuple([least((one[0], other[0])) for one, other in sides])
-    high = tuple([greatest((one[1], other[1])) for one, other in sides])
-    return (low, subtract(high, low))
+    (left, right), (bottom, top) = hull_of_ends(ends_of(a), ends_of(b))
+    low = (left, bottom)
+    return (low, subtract((right, top), low))

@@ -4,6 +4,18 @@ from steadybodies.boxes import check_box, ends_meet, ends_of
 from steadybodies.errors import IdError
 
 
+def check_unused(boxes, name):
+    """Raises IdError if an id is negative or has a box."""
+    if name < 0 or name in boxes:
+        raise IdError("the id is negative or in use")
+
+
+def check_used(boxes, name):
+    """Raises IdError if an id has no box."""
+    if name not in boxes:
+        raise IdError("the id is not in use")
+
+
 class Broad:
     """Holds boxes under ids and knows at every moment which of them meet."""
 
@@ -19,21 +31,20 @@ class Broad:
 
     def add(self, name, box):
         """Puts a box under a new id."""
-        if name < 0 or name in self.boxes:
-            raise IdError("the id is negative or in use")
+        check_unused(self.boxes, name)
         check_box(box)
         self._put(name, box)
 
     def move(self, name, box):
         """Puts another box under an id."""
-        self._check_used(name)
+        check_used(self.boxes, name)
         check_box(box)
         self._take(name)
         self._put(name, box)
 
     def remove(self, name):
         """Removes an id and its box."""
-        self._check_used(name)
+        check_used(self.boxes, name)
         self._take(name)
 
     def pairs(self):
@@ -52,12 +63,8 @@ class Broad:
 
     def box_of(self, name):
         """The box of an id."""
-        self._check_used(name)
+        check_used(self.boxes, name)
         return self.boxes[name]
-
-    def _check_used(self, name):
-        if name not in self.boxes:
-            raise IdError("the id is not in use")
 
     def _meeting(self, ends):
         return sorted([name for name, other in self.ends.items() if ends_meet(ends, other)])

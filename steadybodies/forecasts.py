@@ -1,7 +1,6 @@
 """Forecasts: which bodies would overlap if nothing kept them apart."""
 
-from math import lcm
-
+from steadybodies.ratios import common_denominator
 from steadybodies.rows import check_pushes, items_of, pairs_of
 from steadybodies.states import box_of_body
 from steadybodies.sweeps import first_contact
@@ -20,9 +19,7 @@ def forecast(state, pushes):
 
 def by_time(meetings):
     """Tuples (time, i, j), ascending by time as a number, then by names."""
-    common = 1
-    for moment, _, _ in meetings:
-        common = lcm(common, moment[1])
+    common = common_denominator([moment for moment, _, _ in meetings])
     # Over a common denominator the times have the order of their numerators.
     keyed = [(moment[0] * (common // moment[1]), one, other, moment) for moment, one, other in meetings]
     return [(moment, one, other) for _, one, other, moment in sorted(keyed)]

@@ -30,15 +30,19 @@ def force_on(state, pushes, forces, name):
     """The sum of the forces on a body, which may be a fixed one."""
     check_pushes(state, pushes)
     find_body(state, name)
+    return sums_by_body(state, pushes, forces)[name]
+
+
+def sums_by_body(state, pushes, forces):
+    """The sum of the forces on each body, by name, for a state and pushes that have been checked."""
     parts_of_row = {row[0]: row[1] for row in full_rows(state, pushes)}
-    total = [ZERO, ZERO]
+    sums = {body[0]: [ZERO, ZERO] for body in state[0]}
     for row_name, amount in forces:
         if row_name not in parts_of_row:
             raise RowError("a force is not one of a row")
-        for body_name, axis, factor in parts_of_row[row_name]:
-            if body_name == name:
-                total[axis] = plus(total[axis], times(amount, factor))
-    return (total[0], total[1])
+        for name, axis, factor in parts_of_row[row_name]:
+            sums[name][axis] = plus(sums[name][axis], times(amount, factor))
+    return {name: (x, y) for name, (x, y) in sums.items()}
 
 
 def contacts(state):

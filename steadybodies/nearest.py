@@ -1,10 +1,8 @@
 """The nearest point for which lines hold, and the forces that keep it there."""
 
-from math import lcm
-
 from steadybodies.errors import RowError, TooLarge
 from steadybodies.groups import Group
-from steadybodies.ratios import ZERO, compare, fraction, minus, over, plus, times
+from steadybodies.ratios import ZERO, common_denominator, compare, fraction, minus, over, plus, times
 
 COORDINATE_LIMIT = 60
 LINE_LIMIT = 1000
@@ -52,7 +50,8 @@ class Search:
 
     def __init__(self, weights, wishes, lines):
         self.point = list(wishes)
-        self.scales = [scale_of(parts) for parts, _ in lines]
+        # A line times its scale has integers as its factors.
+        self.scales = [common_denominator([factor for _, factor in parts]) for parts, _ in lines]
         self.factors = [whole_factors(parts, scale) for (parts, _), scale in zip(lines, self.scales)]
         self.edges = [(bound[0] * scale, bound[1]) for (_, bound), scale in zip(lines, self.scales)]
         self.weights = weights
@@ -61,9 +60,7 @@ class Search:
 
     def worst_line(self):
         """The line that the point misses by most, or None if all lines hold."""
-        common = 1
-        for _, denominator in self.point:
-            common = lcm(common, denominator)
+        common = common_denominator(self.point)
         point = [number * (common // denominator) for number, denominator in self.point]
         worst = None
         most = 0
@@ -139,14 +136,6 @@ class Search:
         for spot, way in group.ways(line, turns).items():
             if way != 0:
                 self.point[spot] = plus(self.point[spot], times(step, (way, 1)))
-
-
-def scale_of(parts):
-    """The least number that makes all factors of a line integers."""
-    scale = 1
-    for _, factor in parts:
-        scale = lcm(scale, factor[1])
-    return scale
 
 
 def whole_factors(parts, scale):

@@ -1,6 +1,6 @@
 """Fractions: tuples (numerator, denominator) in lowest terms, the denominator being at least 1."""
 
-from math import gcd
+from math import gcd, lcm
 
 from steadybodies.errors import TextError, ZeroDenominator
 
@@ -78,6 +78,22 @@ def greatest(items):
         if compare(item, best) > 0:
             best = item
     return best
+
+
+def common_denominator(items):
+    """The least number that makes each fraction of a list an integer."""
+    common = 1
+    for _, denominator in items:
+        common = lcm(common, denominator)
+    return common
+
+
+def ascending(items):
+    """The fractions of a list, each once, ascending as numbers."""
+    # Over a common denominator the fractions have the order of their numerators.
+    common = common_denominator(items)
+    found = {item[0] * (common // item[1]): item for item in items}
+    return [found[key] for key in sorted(found)]
 
 
 def decimal(number):

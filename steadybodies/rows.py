@@ -6,7 +6,9 @@ A row is a tuple (name, parts, bound). Two bodies are looked at as a pair of ite
 from steadybodies.boxes import ends_of, gap_of_ends
 from steadybodies.errors import IdError, PushError
 from steadybodies.ratios import ONE, ZERO, compare, least, minus, plus
-from steadybodies.states import STANDING, box_of_body, check_state, is_moving, joint_way, places_of
+from steadybodies.states import (
+    STANDING, are_moving_names, box_of_body, check_state, is_moving, joint_way, places_of,
+)
 from steadybodies.vectors import add, scale
 
 MINUS_ONE = (-1, 1)
@@ -20,12 +22,8 @@ def check_pushes(state, pushes):
 
 def check_pushed(state, pushes):
     """Raises PushError as check_pushes does, for a state that has been checked."""
-    moving = {body[0]: is_moving(body) for body in state[0]}
-    before = -1
-    for name, _ in pushes:
-        if name <= before or not moving.get(name, False):
-            raise PushError("a push is out of order or not one of a moving body")
-        before = name
+    if not are_moving_names(state[0], [name for name, _ in pushes]):
+        raise PushError("a push is out of order or not one of a moving body")
 
 
 def free_speeds(state, pushes):
@@ -70,14 +68,18 @@ def items_of(state, pushes):
     """For each body the item (body, ends, free speed)."""
     bodies, _, pull = state
     push_of = dict(pushes)
-    items = []
-    for body in bodies:
-        name, _, _, mass, _, speed = body
-        if is_moving(body):
-            gain = add(pull, scale(push_of.get(name, STANDING), (1, mass)))
-            speed = add(speed, gain)
-        items.append((body, ends_of(box_of_body(body)), speed))
-    return items
+    return [
+        (body, ends_of(box_of_body(body)), free_speed(body, pull, push_of.get(body[0], STANDING)))
+        for body in bodies
+    ]
+
+
+def free_speed(body, pull, push):
+    """The free speed of a body under a push."""
+    _, _, _, mass, _, speed = body
+    if not is_moving(body):
+        return speed
+    return add(speed, add(pull, scale(push, (1, mass))))
 
 
 def pairs_of(items):

@@ -64,8 +64,13 @@ def point_at(state, speeds):
     return tuple(point)
 
 
+def slacks_of(state, rows, speeds):
+    """For each row how far its sum lies above its bound for the speeds of all bodies."""
+    point = point_at(state, speeds)
+    return [slack_of(line, point) for line in lines_of_rows(state, rows)]
+
+
 def tight_rows(state, pushes, speeds):
     """All rows that are tight for the speeds of all bodies."""
     rows = plain_rows(state, pushes)
-    point = point_at(state, speeds)
-    return [row for row, line in zip(rows, lines_of_rows(state, rows)) if slack_of(line, point) == ZERO]
+    return [row for row, slack in zip(rows, slacks_of(state, rows, speeds)) if slack == ZERO]

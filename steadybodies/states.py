@@ -79,6 +79,17 @@ def is_moving(body):
     return body[3] > 0
 
 
+def are_moving_names(bodies, names):
+    """Whether the names strictly ascend and each is that of a moving body."""
+    moving = {body[0]: is_moving(body) for body in bodies}
+    before = -1
+    for name in names:
+        if name <= before or not moving.get(name, False):
+            return False
+        before = name
+    return True
+
+
 def box_of_body(body):
     """The box of a body."""
     return (body[1], body[2])
@@ -87,6 +98,17 @@ def box_of_body(body):
 def places_of(bodies):
     """The places of bodies, by name."""
     return {body[0]: body[1] for body in bodies}
+
+
+def part_of(state, names):
+    """The state with the moving bodies of these names and all fixed ones, and with their joints."""
+    bodies, joints, pull = state
+    left = {body[0]: body for body in bodies if not is_moving(body) or body[0] in names}
+    return (
+        tuple(left.values()),
+        tuple([joint for joint in joints if joint[0] in left and joint[1] in left]),
+        pull,
+    )
 
 
 def body_of(state, name):

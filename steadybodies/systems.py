@@ -1,8 +1,6 @@
 """Systems of linear equations with as many unknowns."""
 
-from math import lcm
-
-from steadybodies.ratios import fraction
+from steadybodies.ratios import common_denominator, fraction
 
 
 def solve(matrix, right):
@@ -23,9 +21,7 @@ def solve(matrix, right):
 
 def whole_row(row, edge):
     """An equation, its right side behind its factors, times a number that makes all of them integers."""
-    common = edge[1]
-    for factor in row:
-        common = lcm(common, factor[1])
+    common = common_denominator([*row, edge])
     return [factor[0] * (common // factor[1]) for factor in [*row, edge]]
 
 

@@ -34,6 +34,17 @@ FUNCTIONS = {
     "digests": ("digest(text)",),
     "replaying": ("replay(text)",),
     "forecasts": ("forecast(state, pushes)",),
+    "unions": (
+        "area(boxes)", "covered(boxes, point)", "deepest(boxes)", "pieces(boxes)", "free_place(area_box, boxes, size)",
+    ),
+    "routes": (
+        "route(state, box, goal)", "check_route(state, box, goal, places)", "length_of(places)",
+    ),
+    "fair": ("fair_forces(state, pushes)", "loads(state, pushes)"),
+    "compounds": (
+        "compound(first, boxes, mass, grip, speed)", "with_compound(state, first, boxes, mass, grip, speed)",
+        "outline(state, names)",
+    ),
 }
 CLASSES = {
     ("broad", "Broad"): (
@@ -45,10 +56,19 @@ CLASSES = {
         "back(self, count)",
     ),
     ("watches", "Watch"): ("__init__(self, zones)", "told(self, state, pushes)", "inside(self, zone)"),
+    ("trees", "Tree"): (
+        "__init__(self)", "add(self, name, box)", "move(self, name, box)", "remove(self, name)", "box_of(self, name)",
+        "near(self, box)", "hit(self, origin, path)", "closest(self, point)", "depth(self)",
+    ),
+    ("rollback", "Rollback"): (
+        "__init__(self, state)", "push(self, at, name, vector)", "advance(self)", "state_at(self, at)",
+    ),
 }
 PROPERTIES = {
     ("broad", "Broad"): ("names",),
     ("worlds", "World"): ("state", "pushes", "ticks", "journal", "mark"),
+    ("trees", "Tree"): ("names",),
+    ("rollback", "Rollback"): ("state", "number"),
 }
 
 
