@@ -16,6 +16,11 @@ def settled(state, pushes):
 def check_forces(state, pushes, speeds, forces):
     """Whether speeds and forces are those of a tick."""
     check_pushes(state, pushes)
+    return are_forces(state, pushes, speeds, forces)
+
+
+def are_forces(state, pushes, speeds, forces):
+    """The check_forces of a state and pushes that have been checked."""
     if not are_possible(state[0], speeds):
         return False
     rows = plain_rows(state, pushes)
@@ -42,10 +47,15 @@ def tick(state, pushes):
 
 def ticked(state, pushes):
     """The pair (state, forces) behind a tick, for a state and pushes that have been checked."""
-    bodies, joints, pull = state
     speeds, forces = settle(state, pushes)
+    return (with_speeds(state, speeds), forces)
+
+
+def with_speeds(state, speeds):
+    """The state behind a tick with these speeds."""
+    bodies, joints, pull = state
     new_bodies = [
         (name, add(place, speed), size, mass, grip, speed)
         for (name, place, size, mass, grip, _), speed in zip(bodies, speeds)
     ]
-    return ((tuple(new_bodies), joints, pull), forces)
+    return (tuple(new_bodies), joints, pull)

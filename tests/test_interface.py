@@ -45,6 +45,15 @@ FUNCTIONS = {
         "compound(first, boxes, mass, grip, speed)", "with_compound(state, first, boxes, mass, grip, speed)",
         "outline(state, names)",
     ),
+    "motors": ("motor_pushes(state, pushes, motors)", "joined(pushes, others)"),
+    "limbs": ("limbs(state)", "play(state, one, other, axis)", "posed(state, places)"),
+    "streams": ("parted(state, region)", "merged(one, other)", "tick_apart(state, pushes, region)"),
+    "runs": ("record(state, rows_of_pushes)", "check_run(state, run)"),
+    "running": ("write_run(run)", "read_run(text)"),
+    "flights": (
+        "flight(place, speed, pull, n)", "crossing_tick(place, speed, pull, line, most)", "highest_tick(speed, pull)",
+    ),
+    "deltas": ("difference(one, other)", "changed(state, items)"),
 }
 CLASSES = {
     ("broad", "Broad"): (

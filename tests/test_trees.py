@@ -249,12 +249,21 @@ class DepthTest(TreeCase):
         for name, a_box in enumerate(boxes):
             tree.add(name, a_box)
             self.assertTrue(1 <= tree.depth() <= 64)
+        # A tree in which each hull is one of two boxes is not flatter, and as a balanced one it is not deeper.
+        self.assertTrue(7 <= tree.depth() <= 9)
         for name in range(len(boxes) - 1):
             tree.remove(name)
-            self.assertTrue(1 <= tree.depth() <= 64)
+            self.assertTrue(1 <= tree.depth() <= 9)
+        self.assertEqual(tree.depth(), 1)
 
     def test_one_box_is_its_own_way(self):
         self.assertEqual(tree_of({4: box(0, 0, 1, 1)}).depth(), 1)
+
+    def test_few_boxes(self):
+        tree = Tree()
+        for name in (1, 2, 3):
+            tree.add(name, box(name, 0, 1, 1))
+            self.assertEqual(tree.depth(), name)
 
     def test_equal_boxes(self):
         self.check_depth([box(0, 0, 1, 1)] * 60)
