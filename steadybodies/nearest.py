@@ -50,8 +50,7 @@ class Search:
 
     def __init__(self, weights, wishes, lines):
         self.point = list(wishes)
-        # A line times its scale has integers as its factors.
-        self.scales = [common_denominator([factor for _, factor in parts]) for parts, _ in lines]
+        self.scales = [scale_of(parts) for parts, _ in lines]
         self.factors = [whole_factors(parts, scale) for (parts, _), scale in zip(lines, self.scales)]
         self.edges = [(bound[0] * scale, bound[1]) for (_, bound), scale in zip(lines, self.scales)]
         self.weights = weights
@@ -136,6 +135,11 @@ class Search:
         for spot, way in group.ways(line, turns).items():
             if way != 0:
                 self.point[spot] = plus(self.point[spot], times(step, (way, 1)))
+
+
+def scale_of(parts):
+    """The least number that makes all factors of a line integers."""
+    return common_denominator([factor for _, factor in parts])
 
 
 def whole_factors(parts, scale):
